@@ -1,0 +1,1 @@
+"""Holmway: places joined by bridges, and a road or a wall between any two."""
