@@ -29,6 +29,8 @@ WORDS_NOT_USED = re.compile(
     r"\b(type|typing|typing_extensions|enum|Enum|IntEnum|StrEnum|Flag|IntFlag|Generic|Protocol|ABC|ABCMeta|namedtuple"
     r"|NamedTuple|TypedDict|TYPE_CHECKING|abstractmethod)\b|dataclass|overload|contextmanager"
 )
+CHANGES = "append clear extend insert pop remove reverse setdefault update".split()
+WALKED_AT_ONCE = "zip enumerate reversed range items keys values".split()
 NODES = (
     "Module Import ImportFrom alias FunctionDef arguments arg Lambda ClassDef Assign AugAssign If While For Return "
     "Break Continue Pass Raise Try ExceptHandler Expr Constant Name Attribute Subscript Slice List Tuple Dict Set "
@@ -155,11 +157,58 @@ def set_faults(tree):
             yield node.lineno, "L24 set"
 
 
+def imported_names(tree):
+    return [name.asname or name.name for node in tree.body if isinstance(node, ast.ImportFrom) for name in node.names]
+
+
+def classes_of(tree):
+    return [node for node in ast.walk(tree) if isinstance(node, ast.ClassDef)]
+
+
+def local_faults(tree):
+    """L15: no parameter and no local is called like a class or an import of its file."""
+    taken = imported_names(tree) + [node.name for node in classes_of(tree)]
+    for node in ast.walk(tree):
+        if not isinstance(node, ast.ClassDef) and any(name in taken for name in bound_names(node)):
+            yield node.lineno, "L15 local"
+
+
+def walk_faults(tree):
+    """L23: what a loop walks is not changed in it, and what is walked at once is not kept."""
+    for node in ast.walk(tree):
+        if isinstance(node, ast.For):
+            walked = ast.unparse(node.iter)
+            for part in ast.walk(node):
+                if isinstance(part, ast.Call) and isinstance(part.func, ast.Attribute):
+                    if part.func.attr in CHANGES and ast.unparse(part.func.value) == walked:
+                        yield part.lineno, "L23 change"
+                if isinstance(part, ast.Subscript) and isinstance(part.ctx, ast.Store):
+                    if ast.unparse(part.value) == walked:
+                        yield part.lineno, "L23 change"
+        if isinstance(node, (ast.Assign, ast.Return)) and isinstance(node.value, ast.Call):
+            func = node.value.func
+            if (func.attr if isinstance(func, ast.Attribute) else ast.unparse(func)) in WALKED_AT_ONCE:
+                yield node.lineno, "L23 kept"
+
+
+def error_faults(tree):
+    """L19, held narrower: of Python's own errors only those that may be taken anywhere."""
+    own = imported_names(tree) + [node.name for node in classes_of(tree)]
+    for node in ast.walk(tree):
+        if isinstance(node, ast.ExceptHandler) and node.type is not None:
+            taken = node.type.elts if isinstance(node.type, ast.Tuple) else [node.type]
+            for name in taken:
+                if ast.unparse(name) not in own + ["KeyError", "ZeroDivisionError", "StopIteration"]:
+                    yield node.lineno, "L19 except"
+        if isinstance(node, ast.Raise) and not isinstance(node.exc, ast.Call):
+            yield node.lineno, "L19 raise"
+
+
 def faults(text, own_methods=()):
     found = list(text_faults(text))
     tree = ast.parse(text)
-    found.extend(texts_by_themselves(tree))
-    found.extend(set_faults(tree))
+    for look in (texts_by_themselves, set_faults, local_faults, walk_faults, error_faults):
+        found.extend(look(tree))
     for node in ast.walk(tree):
         line = getattr(node, "lineno", 0)
         kind = node.__class__.__name__
@@ -175,5 +224,45 @@ def faults(text, own_methods=()):
 
 
 def methods_of(text):
-    classes = [node for node in ast.walk(ast.parse(text)) if isinstance(node, ast.ClassDef)]
+    classes = classes_of(ast.parse(text))
     return [part.name for node in classes for part in node.body if isinstance(part, ast.FunctionDef)]
+
+
+def values_of(text):
+    """The names under which a value is given to an object."""
+    nodes = ast.walk(ast.parse(text))
+    return [node.attr for node in nodes if isinstance(node, ast.Attribute) and isinstance(node.ctx, ast.Store)]
+
+
+def member_faults(texts):
+    """L18 and L26, over the whole package, held narrower: no name is that of a method or value of Python's own."""
+    methods = [name for text in texts.values() for name in methods_of(text) if name not in ALLOWED_DUNDERS]
+    values = [name for text in texts.values() for name in values_of(text)]
+    for name in methods + values:
+        if name in methods and name in values:
+            yield name, "L18 method and value"
+        if any(hasattr(kind, name) for kind in (str, int, list, dict, set, bytes, tuple, ValueError)):
+            yield name, "L26 name"
+
+
+def draws_of(texts):
+    """For each module the modules that it draws from, with the names that it draws."""
+    found = {}
+    for file, text in texts.items():
+        rows = [node for node in ast.parse(text).body if isinstance(node, ast.ImportFrom)]
+        found[file] = [(row.module.split(".")[-1] + ".py", name.name) for row in rows for name in row.names]
+    return found
+
+
+def draw_faults(texts):
+    """L16: each name from the very file that defines it, and no two files from one another in whatever many steps."""
+    draws = draws_of(texts)
+    for file, drawn in draws.items():
+        for source, name in drawn:
+            if name not in [part for node in ast.parse(texts[source]).body for part in bound_names(node)]:
+                yield file, "L16 not defined there"
+        reached = [source for source, name in drawn]
+        for source in reached:
+            reached.extend(further for further, name in draws[source] if further not in reached)
+        if file in reached:
+            yield file, "L16 draws from itself"

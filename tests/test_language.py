@@ -2,7 +2,7 @@ import pathlib
 import re
 import unittest
 
-from language import PACKAGE, faults, methods_of
+from language import PACKAGE, draw_faults, faults, member_faults, methods_of
 
 FOLDER = pathlib.Path(__file__).resolve().parent.parent / PACKAGE
 
@@ -32,6 +32,14 @@ OUTSIDE = (
     "def gone(xs):\n    del xs[0]\n",
     "def sure(x):\n    assert x\n",
     "def held(f):\n    try:\n        f()\n    except Exception:\n        pass\n",
+    "def held(xs, k):\n    try:\n        return xs[k]\n    except ValueError:\n        return None\n",
+    "def gone(e):\n    raise e\n",
+    "def grow(xs):\n    for x in xs:\n        xs.append(x)\n",
+    "def grow(xs):\n    for x in xs:\n        xs[x] = 0\n",
+    "def kept(xs):\n    pairs = enumerate(xs)\n    return list(pairs)\n",
+    "def kept(d):\n    return d.items()\n",
+    "from holmway.spans import beside\ndef near(beside):\n    return beside\n",
+    "class Held:\n    pass\ndef near(Held):\n    return Held\n",
     "class Held:\n    count = 0\n",
     "class Held(list, dict):\n    pass\n",
     "name = 'f\u00e4hre'\n",
@@ -57,12 +65,30 @@ class Shore:
 """
 
 
+# Each of these packages leaves the language in what its files have with one another.
+MEMBERS_OUTSIDE = (
+    {"a.py": "class A:\n    def reach(self):\n        pass\n", "b.py": "def give(b):\n    b.reach = 0\n"},
+    {"a.py": "class A:\n    def __init__(self):\n        self.items = []\n"},
+    {"a.py": "class A:\n    def sort(self):\n        pass\n"},
+)
+DRAWS_OUTSIDE = (
+    {"a.py": "from holmway.b import f\n", "b.py": "from holmway.c import f\n", "c.py": "def f():\n    pass\n"},
+    {
+        "a.py": "from holmway.b import f\ndef g():\n    pass\n",
+        "b.py": "from holmway.c import h\ndef f():\n    pass\n",
+        "c.py": "from holmway.a import g\ndef h():\n    pass\n",
+    },
+)
+
+
 class LanguageTest(unittest.TestCase):
     def test_every_file_of_the_package_keeps_to_the_language(self):
         texts = {path.name: path.read_text(encoding="utf-8") for path in FOLDER.glob("*.py")}
         own_methods = [name for text in texts.values() for name in methods_of(text)]
         for name, text in texts.items():
             self.assertEqual(faults(text, own_methods), [], name)
+        self.assertEqual(list(member_faults(texts)), [])
+        self.assertEqual(list(draw_faults(texts)), [])
 
     def test_the_folder_holds_plain_source_files_alone(self):
         names = [path.name for path in FOLDER.iterdir() if path.name != "__pycache__"]
@@ -74,6 +100,12 @@ class LanguageTest(unittest.TestCase):
     def test_code_outside_the_language_is_seen(self):
         for text in OUTSIDE:
             self.assertNotEqual(faults(text), [], text)
+
+    def test_files_that_do_not_go_together_are_seen(self):
+        for texts in MEMBERS_OUTSIDE:
+            self.assertNotEqual(list(member_faults(texts)), [], texts)
+        for texts in DRAWS_OUTSIDE:
+            self.assertNotEqual(list(draw_faults(texts)), [], texts)
 
     def test_code_inside_the_language_is_left_alone(self):
         self.assertEqual(faults(INSIDE, methods_of(INSIDE)), [])

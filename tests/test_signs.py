@@ -3,6 +3,8 @@ import unittest
 
 from holmway.signs import is_road, is_shut
 
+from judges import ends_of, is_road_by_words, is_wall_by_words, maps_of
+
 GREATEST = 10 ** 100 - 1
 CHAIN = [(1, 2), (3, 2), (3, 4), (5, 4)]
 
@@ -196,38 +198,12 @@ class SignsKeepNothingTest(SignsTest):
         self.fails(is_road(row, bridges, 1, 3))
 
 
-def is_road_by_words(row, joined, one, other):
-    steps = [frozenset(step) for step in zip(row, row[1:])]
-    return (
-        row[:1] == [one]
-        and row[-1:] == [other]
-        and all(row.count(place) == 1 for place in row)
-        and all(step in joined for step in steps)
-    )
-
-
-def is_wall_by_words(row, joined, one, other):
-    return (
-        all(low < high for low, high in zip(row, row[1:]))
-        and one in row
-        and other not in row
-        and all(len(ends & set(row)) != 1 for ends in joined)
-    )
-
-
-def maps_of(places):
-    pairs = [(high, low) if (high + low) % 2 else (low, high) for low, high in itertools.combinations(places, 2)]
-    for size in range(len(pairs) + 1):
-        for chosen in itertools.combinations(pairs, size):
-            yield list(chosen)
-
-
 class EverySmallMapTest(unittest.TestCase):
     def test_every_row_is_judged_by_the_words_of_the_document(self):
         places = [-2, 0, 1]
         rows = [list(row) for size in range(5) for row in itertools.product(places, repeat=size)]
         for bridges in maps_of(places):
-            joined = [frozenset(bridge) for bridge in bridges]
+            joined = ends_of(bridges)
             for one, other in itertools.product(places, repeat=2):
                 for row in rows:
                     told = (row, bridges, one, other)
